@@ -1,0 +1,1 @@
+"""A mine's shaft: its cage, rope, levels, persons and locks."""

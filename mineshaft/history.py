@@ -1,0 +1,49 @@
+"""The one shaft of a list of calls, and the changes that can be taken back or done again."""
+
+from mineshaft.changes import STRONGEST_ROPE
+from mineshaft.refusals import WRONG
+from mineshaft.state import Shaft, copy_of_shaft
+
+MOST_ROOM = 8
+MOST_SPEED = 1000
+MOST_TAKEN_BACK = 30
+
+
+class History:
+    def __init__(self):
+        self.shaft = None
+        # Shafts as they were ahead of each change, the oldest first.
+        self.past = []
+        # Shafts as they were ahead of each taking back, the oldest first.
+        self.future = []
+
+
+def sh_start(history, room, rope, speed):
+    if room < 1 or room > MOST_ROOM or rope > STRONGEST_ROPE or speed < 1 or speed > MOST_SPEED:
+        return WRONG
+    history.shaft = Shaft(room, rope, speed)
+    history.past = []
+    history.future = []
+    return 0
+
+
+def carry_out(change, shaft, numbers):
+    if len(numbers) == 0:
+        return change(shaft)
+    if len(numbers) == 1:
+        return change(shaft, numbers[0])
+    if len(numbers) == 2:
+        return change(shaft, numbers[0], numbers[1])
+    return change(shaft, numbers[0], numbers[1], numbers[2])
+
+
+def make_change(history, change, numbers):
+    # The change is made on a copy: if it's refused, all is as it was.
+    trial = copy_of_shaft(history.shaft)
+    answer = carry_out(change, trial, numbers)
+    if answer >= 0:
+        history.past.append(history.shaft)
+        history.past = history.past[-MOST_TAKEN_BACK:]
+        history.future = []
+        history.shaft = trial
+    return answer
