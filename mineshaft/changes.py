@@ -7,7 +7,8 @@ try a change out on it before it refuses.
 from mineshaft.refusals import (
     ALREADY, FOUL, FULL, HINDERED, MISSING, NOTHING, TOO_LATE, TOO_LITTLE, UNSAFE, WRONG)
 from mineshaft.rescue import is_safe
-from mineshaft.state import IN_CAGE, Level, Person, count_at, is_below, is_foul, on_the_rope, pass_minutes
+from mineshaft.state import IN_CAGE, Level, Person, count_at, is_below, is_foul, is_level, pass_minutes
+from mineshaft.winding import metres_to, move_cage, winding_refusal
 
 MOST_LEVELS = 5
 DEEPEST = 2000
@@ -22,10 +23,6 @@ MOST_EVER_MINED = 2000000000
 TUB_HOLDS = 3000
 STRONGEST_ROPE = 2000000000
 MOST_LOCKS = 4
-
-
-def is_level(shaft, number):
-    return 1 <= number < len(shaft.levels)
 
 
 def sh_level(shaft, depth, rate, clears):
@@ -77,18 +74,13 @@ def sh_leave(shaft, number):
 
 
 def sh_wind(shaft, number):
-    if number >= len(shaft.levels):
-        return MISSING
-    if number == shaft.cage:
-        return ALREADY
-    metres = abs(shaft.levels[number].depth - shaft.levels[shaft.cage].depth)
-    shaft.worn += metres * on_the_rope(shaft)
-    shaft.cage = number
-    if not is_safe(shaft):
-        return UNSAFE
-    minutes = (metres + shaft.speed - 1) // shaft.speed
+    refusal = winding_refusal(shaft, number)
+    if refusal < 0:
+        return refusal
+    minutes = (metres_to(shaft, number) + shaft.speed - 1) // shaft.speed
     if shaft.minute + minutes > LAST_MINUTE_TO_WIND:
         return TOO_LATE
+    move_cage(shaft, number)
     pass_minutes(shaft, minutes)
     return minutes
 

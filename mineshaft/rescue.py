@@ -1,6 +1,12 @@
-"""What the rope must still bear to bring all up."""
+"""How all are brought up: what the rope must still bear for it, and the next step."""
 
-from mineshaft.state import CAGE_WEIGHT, IN_CAGE, PERSON_WEIGHT, count_at, is_below, on_the_rope
+from mineshaft.state import CAGE_WEIGHT, IN_CAGE, PERSON_WEIGHT, count_at, is_below, on_the_rope, persons_at
+
+# The kinds of steps, by the numbers that tell them.
+BOARDS = 0
+LEAVES = 1
+IS_WOUND = 2
+IS_DUMPED = 3
 
 
 def levels_of_those_below(shaft):
@@ -35,3 +41,32 @@ def needed(shaft):
 
 def is_safe(shaft):
     return shaft.worn + needed(shaft) <= shaft.rope
+
+
+def step_above_ground(shaft):
+    inside = persons_at(shaft, IN_CAGE)
+    if len(inside) > 0:
+        return [LEAVES, inside[0]]
+    if shaft.tub > 0:
+        return [IS_DUMPED, 0]
+    below = levels_of_those_below(shaft)
+    if len(below) > 0:
+        return [IS_WOUND, below[0]]
+    return None
+
+
+def step_below_ground(shaft):
+    taken = taken_along(shaft)
+    if len(taken) == 0:
+        return [IS_WOUND, 0]
+    # The deepest come first: if anybody is at the cage's level, the first one taken is.
+    if taken[0] == shaft.cage:
+        return [BOARDS, persons_at(shaft, shaft.cage)[0]]
+    return [IS_WOUND, taken[0]]
+
+
+def next_step(shaft):
+    """The kind of the next step, and the person or the level it's about; None if there's none."""
+    if shaft.cage == 0:
+        return step_above_ground(shaft)
+    return step_below_ground(shaft)

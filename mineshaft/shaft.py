@@ -1,16 +1,32 @@
 """The interface: a list of calls in, a list of their answers out."""
 
 from mineshaft.changes import CHANGES
-from mineshaft.history import History, make_change, sh_start
+from mineshaft.history import History, ask, make_change, sh_again, sh_back, sh_start, sh_state
+from mineshaft.questions import QUESTIONS
 
 # How many numbers stand behind the number of each call.
-NUMBERS_OF_CALL = (3, 3, 0, 1, 1, 1, 1, 2, 2, 1, 0, 1, 0, 2, 2)
+NUMBERS_OF_CALL = (3, 3, 0, 1, 1, 1, 1, 2, 2, 1, 0, 1, 0, 2, 2, 1, 0, 1, 0, 0, 0, 1, 0, 1, 1, 0, 0, 0, 0, 0)
+
+START = 0
+FIRST_CHANGE = 1
+FIRST_QUESTION = 15
+BACK = 27
+AGAIN = 28
 
 
 def answer_to(history, call, numbers):
-    if call == 0:
+    """The number that's answered, and behind it the numbers of out."""
+    if call == START:
         return [sh_start(history, numbers[0], numbers[1], numbers[2])]
-    return [make_change(history, CHANGES[call - 1], numbers)]
+    if call < FIRST_QUESTION:
+        return [make_change(history, CHANGES[call - FIRST_CHANGE], numbers)]
+    if call < BACK:
+        return ask(history, QUESTIONS[call - FIRST_QUESTION], numbers)
+    if call == BACK:
+        return [sh_back(history)]
+    if call == AGAIN:
+        return [sh_again(history)]
+    return sh_state(history)
 
 
 def answers(calls):

@@ -61,12 +61,22 @@ def copy_of_shaft(shaft):
     return twin
 
 
+def is_level(shaft, number):
+    """Whether there's such a level below ground."""
+    return 1 <= number < len(shaft.levels)
+
+
 def is_below(person):
     return person.place != IN_CAGE and person.place > 0
 
 
+def persons_at(shaft, place):
+    """The numbers of those there, the least first."""
+    return [number for number, person in enumerate(shaft.persons) if person.place == place]
+
+
 def count_at(shaft, place):
-    return len([person for person in shaft.persons if person.place == place])
+    return len(persons_at(shaft, place))
 
 
 def on_the_rope(shaft):
@@ -77,10 +87,14 @@ def is_foul(level):
     return level.gas > FOUL_ABOVE
 
 
+def gain_in_a_minute(level):
+    return level.rate - level.clears * level.fan
+
+
 def gas_after(level, minutes):
     # Rate and fan stay as they are meanwhile, so the gas only rises or only falls:
     # stopping it at 0 once, at the end, is the same as stopping it in each minute.
-    return max(0, level.gas + minutes * (level.rate - level.clears * level.fan))
+    return max(0, level.gas + minutes * gain_in_a_minute(level))
 
 
 def pass_minutes(shaft, minutes):

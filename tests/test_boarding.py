@@ -3,7 +3,7 @@
 import unittest
 
 from driver import BIGGEST, STRONGEST, last, run, wait_till
-from mineshaft.changes import sh_board, sh_hire, sh_leave, sh_level, sh_wait, sh_wind
+from mineshaft.changes import sh_leave
 from mineshaft.state import IN_CAGE, Level, Person, Shaft
 
 
@@ -103,19 +103,6 @@ class Leaving(unittest.TestCase):
             shaft.cage = 1
             shaft.worn = worn
             self.assertEqual(sh_leave(shaft, 0), answer, worn)
-
-
-class Minute(unittest.TestCase):
-    def test_since_which_minute_they_are(self):
-        # No call of points 1 to 6 tells it, so it's read where it's kept.
-        shaft = Shaft(2, STRONGEST, 10)
-        steps = ((sh_level, 30, 0, 0), (sh_wait, 4), (sh_hire,), (sh_wait, 2), (sh_board, 0), (sh_wind, 1),
-                 (sh_leave, 0), (sh_wait, 5), (sh_board, 0), (sh_wind, 0), (sh_leave, 0), (sh_board, 0))
-        since = []
-        for step in steps:
-            self.assertGreaterEqual(step[0](shaft, *step[1:]), 0)
-            since.append([person.since for person in shaft.persons])
-        self.assertEqual(since, [[], [], [4], [4], [6], [6], [6], [6], [6], [6], [6], [17]])
 
 
 if __name__ == "__main__":

@@ -145,6 +145,12 @@ class Files(unittest.TestCase):
                     self.assertRegex(bound, r"\A[A-Za-z][A-Za-z0-9_]*\Z", name)
                     self.assertNotIn(bound, dir(builtins), name)
                     self.assertNotIn(bound, NOT_AS_NAMES, name)
+            brought = {alias.name for node in tree.body if isinstance(node, ast.ImportFrom) for alias in node.names}
+            classes = {node.name for node in tree.body if isinstance(node, ast.ClassDef)}
+            for part in ast.walk(tree):
+                if isinstance(part, ast.FunctionDef):
+                    local = set(names_bound(part)) - {part.name}
+                    self.assertEqual(local & (brought | classes), set(), (name, part.name))
         for name, node in self.nodes(ast.Name):
             if node.id in dir(builtins):
                 self.assertIn(node.id, OWN_NAMES, (name, node.lineno))

@@ -69,22 +69,25 @@ class ThereIsNone(unittest.TestCase):
     def test_beyond_the_last(self):
         # Persons and locks are numbered from 0, levels from 1.
         for beyond in (1, 2, BIGGEST):
-            for call in (("board", beyond), ("leave", beyond), ("open", beyond, 0), ("shut", beyond, 0)):
+            for call in (("board", beyond), ("leave", beyond), ("where", beyond), ("open", beyond, 0),
+                         ("shut", beyond, 0)):
                 self.assertEqual(last(*self.one_of_each, call), -2, call)
         for beyond in (2, 3, BIGGEST):
-            for call in (("wind", beyond), ("fan", beyond, 1), ("mine", beyond, 1)):
+            for call in (("wind", beyond), ("fan", beyond, 1), ("mine", beyond, 1), ("who", beyond), ("gas", beyond),
+                         ("may", beyond)):
                 self.assertEqual(last(*self.one_of_each, call), -2, call)
 
     def test_the_last_is_there(self):
         for call, answer in ((("board", 0), 1), (("leave", 0), -16), (("wind", 1), 1), (("fan", 1, 1), 0),
-                             (("mine", 1, 1), -6), (("open", 0, 0), 0), (("shut", 0, 0), -17)):
+                             (("mine", 1, 1), -6), (("open", 0, 0), 0), (("shut", 0, 0), -17),
+                             (("where", 0), 0), (("who", 1), 0), (("gas", 1), 0), (("may", 1), 10000)):
             self.assertEqual(last(*self.one_of_each, call), answer, call)
 
-    def test_level_0_counts_only_for_wind(self):
-        self.assertEqual(last(*self.one_of_each, ("wind", 0)), -17)
-        self.assertEqual(last(*self.one_of_each, ("wind", 1), ("wind", 0)), 1)
-        self.assertEqual(last(*self.one_of_each, ("fan", 0, 1)), -2)
-        self.assertEqual(last(*self.one_of_each, ("mine", 0, 1)), -2)
+    def test_level_0_counts_only_for_wind_who_and_may(self):
+        self.assertEqual(run(*self.one_of_each, ("wind", 0), ("may", 0), ("who", 0))[-3:], [-17, -17, 1])
+        self.assertEqual(run(*self.one_of_each, ("wind", 1), ("may", 0), ("wind", 0))[-2:], [10000, 1])
+        for call in (("fan", 0, 1), ("mine", 0, 1), ("gas", 0)):
+            self.assertEqual(last(*self.one_of_each, call), -2, call)
 
     def test_it_is_looked_at_first(self):
         for call in (("fan", 0, 2), ("fan", 2, 2), ("mine", 0, 0), ("mine", 2, 10001), ("open", 1, 2), ("shut", 1, 2)):
